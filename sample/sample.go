@@ -35,6 +35,15 @@ func Mark(n int) api.Txn {
 	return api.Txn{Sets: []api.Set{{Key: 7, Op: api.Put, A: Number(n), B: Number(0)}}}
 }
 
+// Keyed reads these keys, and puts numbers into those.
+func Keyed(reads []int, sets ...int) api.Txn {
+	x := api.Txn{Reads: reads}
+	for _, key := range sets {
+		x.Sets = append(x.Sets, api.Set{Key: key, Op: api.Put, A: Number(key), B: Number(0)})
+	}
+	return x
+}
+
 // Marks are n transactions that can be told from each other by what they set.
 func Marks(n int) []api.Txn {
 	var l []api.Txn
@@ -65,6 +74,28 @@ func Wrong(e api.Errno) api.Txn {
 	return x
 }
 
+// WrongList is a list that no layer takes, and the error that it is told by.
+type WrongList struct {
+	Txns []api.Txn
+	E    api.Errno
+}
+
+// WrongLists have the errors that transactions in their order can have, each also ahead of others.
+func WrongLists() []WrongList {
+	lists := []WrongList{{Marks(api.MaxTxns + 1), api.ErrMany}, {Marks(1 << 12), api.ErrMany}}
+	for _, first := range WrongKinds() {
+		lists = append(lists,
+			WrongList{[]api.Txn{Wrong(first)}, first},
+			WrongList{append(Marks(api.MaxTxns-1), Wrong(first)), first},
+			WrongList{append(Marks(api.MaxTxns), Wrong(first)), api.ErrMany},
+			WrongList{append([]api.Txn{Wrong(first)}, Marks(api.MaxTxns)...), api.ErrMany})
+		for _, later := range WrongKinds() {
+			lists = append(lists, WrongList{[]api.Txn{Note(), Wrong(first), Mark(1), Wrong(later)}, first})
+		}
+	}
+	return lists
+}
+
 // Draw gives numbers that look like no rule, the same ones for the same start.
 type Draw uint64
 
@@ -92,13 +123,32 @@ func (d *Draw) Txns() []api.Txn {
 	return l
 }
 
+// Loose are at most MaxTxns, and right, with so few keys each that many of them are not in each other's way.
+func (d *Draw) Loose() []api.Txn {
+	var l []api.Txn
+	for range d.N(api.MaxTxns + 1) {
+		l = append(l, d.txn(d.N(3), 1))
+	}
+	return l
+}
+
+// Mixed are Loose, mostly, or Txns.
+func (d *Draw) Mixed() []api.Txn {
+	if d.N(3) == 0 {
+		return d.Txns()
+	}
+	return d.Loose()
+}
+
 // Txn is right; of its guards some hold and some do not.
-func (d *Draw) Txn() api.Txn {
-	x := api.Txn{Reads: d.keys(d.N(api.MaxReads + 1))}
+func (d *Draw) Txn() api.Txn { return d.txn(d.N(api.MaxReads+1), 1+d.N(api.MaxWrites)) }
+
+func (d *Draw) txn(reads, sets int) api.Txn {
+	x := api.Txn{Reads: d.keys(reads)}
 	for range d.N(api.MaxGuards + 1) {
 		x.Guards = append(x.Guards, api.Guard{Kind: api.Same + d.N(api.NoAbove), A: d.operand(x), B: d.operand(x)})
 	}
-	for _, key := range d.keys(1 + d.N(api.MaxWrites)) {
+	for _, key := range d.keys(sets) {
 		x.Sets = append(x.Sets, api.Set{Key: key, Op: api.Put + d.N(api.Most), A: d.operand(x), B: d.operand(x)})
 	}
 	return x

@@ -9,7 +9,7 @@ import (
 )
 
 func TestRightOnes(t *testing.T) {
-	for _, x := range append(Marks(2), Pay(3), Note()) {
+	for _, x := range append(Marks(2), Pay(3), Note(), Keyed(nil, 0), Keyed([]int{0, 1, 2, 3}, 3, 4, 7)) {
 		if e := txn.Check(x); e != api.OK {
 			t.Errorf("%v: %d", x, e)
 		}
@@ -21,6 +21,66 @@ func TestWrongOnes(t *testing.T) {
 		if e := txn.Check(Wrong(want)); e != want {
 			t.Errorf("it is %d, and must be %d", e, want)
 		}
+	}
+}
+
+// A list must be wrong by its own error, or tests that lean on it would hold others to it.
+func TestWrongLists(t *testing.T) {
+	for i, w := range WrongLists() {
+		if len(w.Txns) > api.MaxTxns {
+			if w.E != api.ErrMany {
+				t.Errorf("of %d, at %d, it is %d", len(w.Txns), i, w.E)
+			}
+			continue
+		}
+		var errs []api.Errno
+		for _, x := range w.Txns {
+			if e := txn.Check(x); e != api.OK {
+				errs = append(errs, e)
+			}
+		}
+		if len(errs) == 0 || errs[0] != w.E {
+			t.Errorf("at %d there are %v, and it is %d", i, errs, w.E)
+		}
+	}
+}
+
+func TestLoose(t *testing.T) {
+	d := Draw(1)
+	var txns [api.MaxTxns + 1]int
+	for range 200 {
+		l := d.Loose()
+		txns[len(l)]++
+		for _, x := range l {
+			if e := txn.Check(x); e != api.OK || len(x.Reads) > 2 || len(x.Sets) != 1 {
+				t.Errorf("%v: %d", x, e)
+			}
+		}
+	}
+	for n, times := range txns {
+		if times == 0 {
+			t.Errorf("%d never come", n)
+		}
+	}
+}
+
+func TestMixed(t *testing.T) {
+	d := Draw(1)
+	loose, others := 0, 0
+	for range 100 {
+		for _, x := range d.Mixed() {
+			if e := txn.Check(x); e != api.OK {
+				t.Errorf("%v: %d", x, e)
+			}
+			if len(x.Reads) <= 2 && len(x.Sets) == 1 {
+				loose++
+			} else {
+				others++
+			}
+		}
+	}
+	if loose < 100 || others < 20 {
+		t.Errorf("%d loose ones and %d others", loose, others)
 	}
 }
 
