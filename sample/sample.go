@@ -140,6 +140,11 @@ func (d *Draw) Mixed() []api.Txn {
 	return d.Loose()
 }
 
+// Plan has any number of shards that may be, and Mixed transactions.
+func (d *Draw) Plan() api.Plan {
+	return api.Plan{Shards: 1 + d.N(api.MaxShards), Txns: d.Mixed()}
+}
+
 // Txn is right; of its guards some hold and some do not.
 func (d *Draw) Txn() api.Txn { return d.txn(d.N(api.MaxReads+1), 1+d.N(api.MaxWrites)) }
 
